@@ -1,0 +1,1 @@
+"""Machines that count: forty counters, and rules that take of them and give to them."""
