@@ -1,1 +1,1 @@
-"""Machines that count: forty counters, and rules that take of them and give to them."""
+"""Machines that count: forty counters, rules that take of them and give to them, and codes of instructions."""

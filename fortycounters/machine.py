@@ -8,6 +8,12 @@ PUT = 2
 GET = 3
 STEP = 4
 RUN = 5
+ALONE = 6
+NUMBER = 7
+RATIO = 8
+CODE = 9
+MADE = 10
+GO = 11
 
 
 class Reader:
@@ -49,6 +55,20 @@ def answer_call(machine, call, reader):
         return [machine.step()]
     if call == RUN:
         return machine.run(reader.read_number())
+    if call == ALONE:
+        i = reader.read_number()
+        k = reader.read_number()
+        return machine.alone(i, k)
+    if call == NUMBER:
+        return machine.number()
+    if call == RATIO:
+        return machine.ratio(reader.read_number())
+    if call == CODE:
+        return [machine.set_code(reader.read_row())]
+    if call == MADE:
+        return [machine.make_rules()]
+    if call == GO:
+        return machine.go(reader.read_number())
     # How much belongs to an unknown call isn't known, so nothing behind it could be read right.
     raise KeyError(call)
 
